@@ -1,0 +1,1 @@
+"""Rightrows: tables kept by others, with answers that can only be right."""
