@@ -32,3 +32,11 @@ class InvalidWord(RightrowsError):
 
     def __init__(self, number):
         self.number = number
+
+
+class Refused(RightrowsError):
+    """A reader refuses a certificate with a word at the entry with a number."""
+
+    def __init__(self, word, number):
+        self.word = word
+        self.number = number

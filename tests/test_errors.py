@@ -3,7 +3,7 @@
 import unittest
 
 from rightrows import errors
-from rightrows.errors import InvalidLine, InvalidWord, RightrowsError, TooManyVersions, UnknownVersion
+from rightrows.errors import InvalidLine, InvalidWord, Refused, RightrowsError, TooManyVersions, UnknownVersion
 
 NUMBERED = (UnknownVersion, InvalidLine, InvalidWord)
 
@@ -42,6 +42,11 @@ class ErrorsTest(unittest.TestCase):
     def test_errors_without_a_number(self):
         self.assertFalse(hasattr(TooManyVersions(), "number"))
         self.assertFalse(hasattr(RightrowsError(), "number"))
+
+    def test_refusal_has_a_word_and_a_number(self):
+        refusal = Refused("digest", 4)
+        self.assertEqual((refusal.word, refusal.number), ("digest", 4))
+        self.assertEqual(Refused.__bases__, (RightrowsError,))
 
     def test_errors_are_caught_by_their_own_class_and_the_base_class(self):
         for error in (UnknownVersion(7), TooManyVersions(), InvalidLine(0), InvalidWord(2)):
