@@ -545,6 +545,70 @@ def word_by_word(rule, certificate, walk):
         return refusal.told
 
 
+# Versions and seals, value by value
+
+def line_of(rule, heads):
+    """Versions with some heads, each worked out from the one before."""
+    found = [(0, heads[0], 0)]
+    for number, head in enumerate(heads[1:], start=1):
+        found.append((number, head, digest(rule, ("version",) + found[-1])))
+    return found
+
+
+CARD_PLACES = ((0, 0), (0, 1), (1, 0), (1, 1))
+
+
+def on_from(rule, number, digit, way, steps, value):
+    """The values of a chain from the one after some steps to the one after 15."""
+    values = [value]
+    for step in range(steps, 15):
+        values.append(digest(rule, ("chain", number, digit, way, step, values[-1])))
+    return values
+
+
+def chain_values(rule, secret, number, digit, way):
+    """The values of a chain after 0 to 15 steps."""
+    return on_from(rule, number, digit, way, 0, digest(rule, ("secret", secret, number, digit, way)))
+
+
+def card(rule, secret, number):
+    return tuple(chain_values(rule, secret, number, digit, way)[15] for digit, way in CARD_PLACES)
+
+
+def cards(rule, secret, many):
+    return [card(rule, secret, number) for number in range(many)]
+
+
+def digits_to_seal(rule, number, value):
+    mark = digest(rule, ("sealed", number, value)) % 256
+    return mark % 16, mark // 16
+
+
+def seal(rule, secret, number, value):
+    low, high = digits_to_seal(rule, number, value)
+    steps = low, 15 - low, high, 15 - high
+    return tuple(chain_values(rule, secret, number, digit, way)[many]
+                 for (digit, way), many in zip(CARD_PLACES, steps))
+
+
+def fits(rule, its_card, number, value, given):
+    """Whether a seal fits a card, told value by value."""
+    low, high = digits_to_seal(rule, number, value)
+    steps = low, 15 - low, high, 15 - high
+    return len(given) == 4 and all(
+        on_from(rule, number, digit, way, many, part)[-1] == goal
+        for (digit, way), many, part, goal in zip(CARD_PLACES, steps, given, its_card))
+
+
+def sealed(rule, secret, version):
+    return (version, seal(rule, secret, version[0], version))
+
+
+def sealed_line(rule, secret, heads):
+    """Sealed versions with some heads."""
+    return [sealed(rule, secret, version) for version in line_of(rule, heads)]
+
+
 # Tables, queries and changes for many tests
 
 EQUAL_RANKS = ("aaxr", "eb00", "ibjq")

@@ -16,14 +16,6 @@ HEADS = [head_of(ref.RULE, ref.FRUIT[:number]) for number in range(6)]
 LENGTH_RULE = (10 ** 9, 10 ** 9)
 
 
-def line_of(rule, heads):
-    """Versions with some heads, each worked out from the one before."""
-    found = [(0, heads[0], 0)]
-    for number, head in enumerate(heads[1:], start=1):
-        found.append((number, head, digest(rule, ("version",) + found[-1])))
-    return found
-
-
 class VersionsTest(ref.KeepingTest):
 
     def test_first_version(self):
@@ -41,7 +33,7 @@ class VersionsTest(ref.KeepingTest):
 
     def test_next_versions(self):
         for rule in (ref.RULE, (1, 2), (10 ** 18, 10 ** 18 - 1)):
-            expected = line_of(rule, HEADS)
+            expected = ref.line_of(rule, HEADS)
             version = first_version(HEADS[0])
             for number, head in enumerate(HEADS[1:], start=1):
                 version = self.kept(next_version, rule, version, head)
@@ -64,7 +56,7 @@ class VersionsTest(ref.KeepingTest):
 class FollowsTest(ref.KeepingTest):
 
     def setUp(self):
-        self.line = line_of(ref.RULE, HEADS)
+        self.line = ref.line_of(ref.RULE, HEADS)
 
     def assert_follows(self, earlier, later, path, expected):
         with self.subTest(path=path):
@@ -133,7 +125,7 @@ class FollowsTest(ref.KeepingTest):
         self.assert_follows(self.line[0], (number, HEADS[0], before), self.line[1:5], True)
 
     def test_path_of_another_line(self):
-        other = line_of(ref.RULE, [HEADS[0]] + HEADS[:5])
+        other = ref.line_of(ref.RULE, [HEADS[0]] + HEADS[:5])
         self.assert_follows(self.line[0], self.line[5], other[1:5], False)
         self.assert_follows(other[0], other[5], other[1:5], True)
         self.assert_follows(other[0], self.line[5], other[1:5], False)
@@ -146,7 +138,7 @@ class FollowsTest(ref.KeepingTest):
         self.assert_follows(earlier, middle, [], True)
 
     def test_equal_digests(self):
-        line = line_of(LENGTH_RULE, HEADS)
+        line = ref.line_of(LENGTH_RULE, HEADS)
         other = list(line)
         other[2] = (2, HEADS[5], line[2][2])
         self.assertIs(follows(LENGTH_RULE, line[0], line[5], other[1:5]), True)
@@ -164,24 +156,24 @@ class ClashOfPathsTest(ref.KeepingTest):
                 self.assertIs(type(found), tuple)
 
     def test_equal_lists(self):
-        line = line_of(LENGTH_RULE, HEADS)
+        line = ref.line_of(LENGTH_RULE, HEADS)
         for number in range(7):
             self.assert_clash(line[number:], line[number:], None)
 
     def test_one_list_is_only_longer(self):
-        line = line_of(LENGTH_RULE, HEADS)
+        line = ref.line_of(LENGTH_RULE, HEADS)
         for number in range(1, 7):
             self.assert_clash(line, line[number:], None)
             self.assert_clash(line[number:], line, None)
 
     def test_empty_lists(self):
-        line = line_of(LENGTH_RULE, HEADS)
+        line = ref.line_of(LENGTH_RULE, HEADS)
         self.assert_clash([], [], None)
         self.assert_clash(line, [], None)
         self.assert_clash([], line, None)
 
     def test_one_different_version(self):
-        line = line_of(LENGTH_RULE, HEADS)
+        line = ref.line_of(LENGTH_RULE, HEADS)
         for number in range(5):
             other = (number, HEADS[5], line[number][2])
             given = line[:number] + [other] + line[number + 1:]
@@ -189,14 +181,14 @@ class ClashOfPathsTest(ref.KeepingTest):
             self.assert_clash(given, line, (other, line[number]))
 
     def test_last_of_several_different_versions(self):
-        line = line_of(LENGTH_RULE, HEADS)
-        other = line_of(LENGTH_RULE, HEADS[::-1])
+        line = ref.line_of(LENGTH_RULE, HEADS)
+        other = ref.line_of(LENGTH_RULE, HEADS[::-1])
         for number in range(1, 6):
             given = other[:number] + line[number:]
             self.assert_clash(line, given, (line[number - 1], other[number - 1]))
 
     def test_lists_of_different_lengths(self):
-        line = line_of(LENGTH_RULE, HEADS)
+        line = ref.line_of(LENGTH_RULE, HEADS)
         other = (3, HEADS[5], line[3][2])
         given = line[:3] + [other] + line[4:]
         for first in range(4):
@@ -209,20 +201,20 @@ class ClashOfPathsTest(ref.KeepingTest):
         self.assert_clash(line[1:], [line[0], other] + line[4:], (line[3], other))
 
     def test_versions_with_other_numbers(self):
-        line = line_of(LENGTH_RULE, HEADS)
+        line = ref.line_of(LENGTH_RULE, HEADS)
         shifted = [(number + 7, head, before) for number, head, before in line]
         self.assert_clash(line, shifted[:3] + line[3:], (line[2], shifted[2]))
 
     def test_different_versions_with_different_digests(self):
-        line = line_of(ref.RULE, HEADS)
+        line = ref.line_of(ref.RULE, HEADS)
         for number in range(6):
             given = line[:number] + [(number, HEADS[number], line[number][2] + 1)] + line[number + 1:]
             self.assert_clash(line, given, None, ref.RULE)
-        self.assert_clash(line, line_of(ref.RULE, HEADS[::-1]), None, ref.RULE)
+        self.assert_clash(line, ref.line_of(ref.RULE, HEADS[::-1]), None, ref.RULE)
 
     def test_only_the_last_difference_counts(self):
         rule = (1, 3)
-        line = line_of(rule, HEADS)
+        line = ref.line_of(rule, HEADS)
 
         def other(number, is_equal):
             """Another version than that of the line, with the same or another digest."""
@@ -243,8 +235,8 @@ class ClashOfPathsTest(ref.KeepingTest):
         many = {True: 0, False: 0}
         for _ in range(500):
             rule = (source.randint(1, 20), source.randint(2, 7))
-            line = line_of(rule, HEADS)
-            given = line_of(rule, [source.choice(HEADS) for _ in range(source.randint(1, 5))] + HEADS[5:])
+            line = ref.line_of(rule, HEADS)
+            given = ref.line_of(rule, [source.choice(HEADS) for _ in range(source.randint(1, 5))] + HEADS[5:])
             places = [place for place in range(1, min(len(line), len(given)) + 1) if line[-place] != given[-place]]
             expected = (line[-places[0]], given[-places[0]]) if places else None
             if expected and digest(rule, ("version",) + expected[0]) != digest(rule, ("version",) + expected[1]):
@@ -259,8 +251,8 @@ class ClashOfPathsTest(ref.KeepingTest):
         found = 0
         for _ in range(2000):
             rule = (source.randint(1, 20), source.randint(2, 4))
-            line = line_of(rule, HEADS[:4])
-            other = line_of(rule, [source.choice(HEADS) for _ in range(3)] + HEADS[3:4])
+            line = ref.line_of(rule, HEADS[:4])
+            other = ref.line_of(rule, [source.choice(HEADS) for _ in range(3)] + HEADS[3:4])
             if other != line and other[-1] == line[-1]:
                 found += 1
                 self.assertIs(follows(rule, other[0], line[-1], other[1:3]), True)
