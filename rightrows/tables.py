@@ -5,14 +5,25 @@ A table is a list of pairs of a key and a row, in ascending order of the keys.
 
 KEY_SIGNS = "abcdefghijklmnopqrstuvwxyz0123456789"
 LONGEST_KEY = 8
+LONGEST_BOUND = 9
 WIDEST_ROW = 3
 GREATEST_NUMBER = 65535
 MOST_PAIRS = 100
 
 
+def has_key_signs(text):
+    """Return True if a string has lower-case letters and digits only."""
+    return all([sign in KEY_SIGNS for sign in text])
+
+
 def is_key(text):
     """Return True if a string is a key (point 3), otherwise False."""
-    return 1 <= len(text) <= LONGEST_KEY and all([sign in KEY_SIGNS for sign in text])
+    return 1 <= len(text) <= LONGEST_KEY and has_key_signs(text)
+
+
+def is_bound(text):
+    """Return True if a string is a bound of a range (point 4), which may be empty."""
+    return len(text) <= LONGEST_BOUND and has_key_signs(text)
 
 
 def is_row(numbers):

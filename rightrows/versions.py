@@ -19,11 +19,15 @@ def next_version(rule, version, head):
     return (version[0] + 1, head, version_digest(rule, version))
 
 
-def follows(rule, earlier, later, path):
-    """Return True if a path leads from the earlier to the later version (point 26)."""
-    versions = [earlier] + path + [later]
+def is_line(rule, versions):
+    """Return True if each version of a list is followed by its next one, otherwise False."""
     return all([following == next_version(rule, version, following[1])
                 for version, following in zip(versions, versions[1:])])
+
+
+def follows(rule, earlier, later, path):
+    """Return True if a path leads from the earlier to the later version (point 26)."""
+    return is_line(rule, [earlier] + path + [later])
 
 
 def clash_of_paths(rule, honest, given):

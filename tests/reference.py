@@ -144,6 +144,26 @@ def merge_parts(first, second):
             opened.append(rights[right])
 
 
+def batch_certificate(rule, table, changes):
+    """The entries of the parts that each change passes, but for those whose roots are open or made already."""
+    found = []
+    open_keys = set()
+    for change in changes:
+        for value in change_certificate(rule, table, change):
+            if value[0] not in open_keys:
+                found.append(value)
+                open_keys.add(value[0])
+        rows = dict(table)
+        if change[0] == "put":
+            rows[change[1]] = change[2]
+            open_keys.add(change[1])
+        else:
+            rows.pop(change[1], None)
+            open_keys.discard(change[1])
+        table = sorted(rows.items())
+    return found
+
+
 class Pairing:
     """Joins and differences over parts that are tuples of pairs; what is open is told by keys."""
 
@@ -447,6 +467,13 @@ class WordByWord:
 
     def change(self, head, change):
         node = getattr(self, change[0])(Node(head), *change[1:])
+        self.source.end()
+        return ("head", node.link)
+
+    def batch(self, head, changes):
+        node = Node(head)
+        for change in changes:
+            node = getattr(self, change[0])(node, *change[1:])
         self.source.end()
         return ("head", node.link)
 

@@ -90,6 +90,52 @@ class LanguageTest(unittest.TestCase):
             used = [node.id for node in ast.walk(tree) if isinstance(node, ast.Name)]
             self.assertEqual([word for word in used if word not in own + BUILTINS], [], name)
 
+    def test_no_variable_has_the_name_of_an_import_or_a_class(self):
+        for name, tree in trees():
+            taken = [alias.name for node in tree.body if isinstance(node, ast.ImportFrom) for alias in node.names]
+            taken.extend(node.name for node in tree.body if isinstance(node, ast.ClassDef))
+            self.assertEqual(len(taken), len(set(taken)), name)
+            used = [node.arg for node in ast.walk(tree) if isinstance(node, ast.arg)]
+            used.extend(node.id for node in ast.walk(tree)
+                        if isinstance(node, ast.Name) and not isinstance(node.ctx, ast.Load))
+            self.assertEqual([word for word in used if word in taken], [], name)
+
+    def test_no_name_is_a_method_and_an_attribute(self):
+        methods = {item.name for _, node in nodes(ast.ClassDef) for item in node.body[1:]}
+        attributes = {node.attr for _, node in nodes(ast.Attribute) if not isinstance(node.ctx, ast.Load)}
+        self.assertEqual(methods & attributes, set())
+
+    def test_bodies_of_classes(self):
+        for place, node in nodes(ast.ClassDef):
+            self.assertEqual(node.decorator_list, [], place)
+            for item in node.body[1:]:
+                self.assertIsInstance(item, ast.FunctionDef, place)
+
+    def test_no_decorators_annotations_and_defaults(self):
+        for place, node in nodes(ast.FunctionDef):
+            self.assertEqual((node.decorator_list, node.returns), ([], None), place)
+            self.assertEqual(node.args.defaults + node.args.kw_defaults, [], place)
+            self.assertEqual([one.annotation for one in node.args.args if one.annotation is not None], [], place)
+        self.assertEqual(nodes(ast.AnnAssign), [])
+
+    def test_values_at_module_level(self):
+        for name, tree in trees():
+            for node in tree.body:
+                if isinstance(node, ast.Assign):
+                    self.assertEqual(len(node.targets), 1, name)
+                    ast.literal_eval(node.value)
+
+    def test_is_stands_beside_none_true_and_false_only(self):
+        for place, node in nodes(ast.Compare):
+            for sign, right in zip(node.ops, node.comparators):
+                if isinstance(sign, (ast.Is, ast.IsNot)):
+                    self.assertIsInstance(right, ast.Constant, place)
+                    self.assertIn(right.value, (None, True, False), place)
+
+    def test_everything_has_a_docstring(self):
+        for place, node in nodes((ast.ClassDef, ast.FunctionDef)):
+            self.assertTrue(ast.get_docstring(node) or node.name == "__init__", place)
+
     def test_statements_and_operators_that_are_not_used(self):
         kinds = (ast.Global, ast.AsyncFunctionDef, ast.AsyncFor, ast.AsyncWith, ast.Await)
         self.assertEqual(nodes(kinds), [])

@@ -31,6 +31,13 @@ class DoubleTest(ref.KeepingTest):
         for number in range(2, 6):
             self.assert_double(True, LINE[number], OTHER_LINE[number])
 
+    def test_first_versions(self):
+        first, second = [ref.sealed(ref.RULE, SECRET, (0, head, 0)) for head in HEADS[:2]]
+        self.assert_double(True, first, second)
+        self.assert_double(True, first, second, CARDS[:1])
+        self.assert_double(False, first, second, [])
+        self.assert_double(False, first, second, CARDS[1:])
+
     def test_whatever_differs_in_the_versions(self):
         number, head, before = LINE[2][0]
         versions = [(number, head, before + 1), (number, head, 0), (number, HEADS[0], before)]
@@ -110,7 +117,7 @@ class DoubleTest(ref.KeepingTest):
     def test_small_moduli(self):
         source = random.Random(31)
         many = {True: 0, False: 0}
-        for _ in range(600):
+        for _ in range(400):
             rule = (source.randint(1, 20), source.randint(2, 6))
             cards = ref.cards(rule, SECRET, 3)
             sealed = []
@@ -124,7 +131,7 @@ class DoubleTest(ref.KeepingTest):
                 ref.fits(rule, cards[numbers[0]], numbers[0], version, given) for version, given in sealed))
             self.assert_double(expected, sealed[0], sealed[1], cards, rule)
             many[expected] += 1
-        self.assertGreater(min(many.values()), 30)
+        self.assertGreater(min(many.values()), 20)
 
     def test_defined_in_their_file(self):
         for function in (is_double, parting):

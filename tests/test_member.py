@@ -400,6 +400,12 @@ class MeetTest(ref.KeepingTest):
             self.assert_meet(member, [OTHER_LINE[3]], (LINE[3], OTHER_LINE[3]) if many > 3 else None)
         self.assert_meet(Member(ref.RULE, ref.cards(ref.RULE, SECRET + 1, 20), LINE[3]), [OTHER_LINE[3]], None)
 
+    def test_first_versions(self):
+        member = Member(ref.RULE, CARDS[:1], LINE[0])
+        other = ref.sealed(ref.RULE, SECRET, (0, HEADS[5], 0))
+        self.assert_meet(member, [other], (LINE[0], other))
+        self.assert_meet(member, [(other[0], LINE[0][1])], None)
+
     def test_versions_that_differ_in_the_seal_alone(self):
         member = member_of(LINE, 0, 3, 4)
         self.assert_meet(member, [(version, given[::-1]) for version, given in LINE], None)
